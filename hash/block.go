@@ -1,0 +1,78 @@
+package hash
+
+import (
+	"math/bits"
+
+	"pawl/api"
+)
+
+// start is the words that stand ahead of the first block: of the square roots of the first eight primes, the first 32 bits behind the point.
+var start = [8]uint32{
+	0x6a09e667, 0xbb67ae85, 0x3c6ef372, 0xa54ff53a, 0x510e527f, 0x9b05688c, 0x1f83d9ab, 0x5be0cd19,
+}
+
+// constants is the words of the rounds: of the cube roots of the first sixty-four primes, the first 32 bits behind the point.
+var constants = [64]uint32{
+	0x428a2f98, 0x71374491, 0xb5c0fbcf, 0xe9b5dba5, 0x3956c25b, 0x59f111f1, 0x923f82a4, 0xab1c5ed5,
+	0xd807aa98, 0x12835b01, 0x243185be, 0x550c7dc3, 0x72be5d74, 0x80deb1fe, 0x9bdc06a7, 0xc19bf174,
+	0xe49b69c1, 0xefbe4786, 0x0fc19dc6, 0x240ca1cc, 0x2de92c6f, 0x4a7484aa, 0x5cb0a9dc, 0x76f988da,
+	0x983e5152, 0xa831c66d, 0xb00327c8, 0xbf597fc7, 0xc6e00bf3, 0xd5a79147, 0x06ca6351, 0x14292967,
+	0x27b70a85, 0x2e1b2138, 0x4d2c6dfc, 0x53380d13, 0x650a7354, 0x766a0abb, 0x81c2c92e, 0x92722c85,
+	0xa2bfe8a1, 0xa81a664b, 0xc24b8b70, 0xc76c51a3, 0xd192e819, 0xd6990624, 0xf40e3585, 0x106aa070,
+	0x19a4c116, 0x1e376c08, 0x2748774c, 0x34b0bcb5, 0x391c0cb3, 0x4ed8aa4a, 0x5b9cca4f, 0x682e6ff3,
+	0x748f82ee, 0x78a5636f, 0x84c87814, 0x8cc70208, 0x90befffa, 0xa4506ceb, 0xbef9a3f7, 0xc67178f2,
+}
+
+// Block is the compression of one block.
+func Block(h [8]uint32, b [64]byte) [8]uint32 {
+	end := mixed(h, spread(b))
+	for i := range h {
+		h[i] += end[i]
+	}
+	return h
+}
+
+// spread is the words W of a block, one for each round.
+func spread(b [blockSize]byte) [64]uint32 {
+	var w [64]uint32
+	for t := range 16 {
+		w[t] = word(b[4*t : 4*t+4 : 4*t+4])
+	}
+	for t := 16; t < 64; t++ {
+		x, y := w[t-15], w[t-2]
+		s0 := right(x, 7) ^ right(x, 18) ^ x>>3
+		s1 := right(y, 17) ^ right(y, 19) ^ y>>10
+		w[t] = s1 + w[t-7] + s0 + w[t-16]
+	}
+	return w
+}
+
+// mixed is what the rounds make of eight words. The letters are the chapter's.
+func mixed(s [8]uint32, w [64]uint32) [8]uint32 {
+	a, b, c, d, e, f, g, h := s[0], s[1], s[2], s[3], s[4], s[5], s[6], s[7]
+	for t := range 64 {
+		s1 := right(e, 6) ^ right(e, 11) ^ right(e, 25)
+		t1 := h + s1 + (e&f ^ ^e&g) + constants[t] + w[t]
+		s0 := right(a, 2) ^ right(a, 13) ^ right(a, 22)
+		t2 := s0 + (a&b ^ a&c ^ b&c)
+		a, b, c, d, e, f, g, h = t1+t2, a, b, c, d+t1, e, f, g
+	}
+	return [8]uint32{a, b, c, d, e, f, g, h}
+}
+
+// right is x turned by n places to the right.
+func right(x uint32, n int) uint32 { return bits.RotateLeft32(x, -n) }
+
+// word is four bytes as a word, highest first.
+func word(b []byte) uint32 {
+	return uint32(b[0])<<24 | uint32(b[1])<<16 | uint32(b[2])<<8 | uint32(b[3])
+}
+
+// told is eight words as bytes, each highest first.
+func told(words [8]uint32) api.Key {
+	var k api.Key
+	for i, w := range words {
+		copy(k[4*i:], []byte{byte(w >> 24), byte(w >> 16), byte(w >> 8), byte(w)})
+	}
+	return k
+}
