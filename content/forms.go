@@ -6,12 +6,10 @@ import (
 	"unicode/utf8"
 
 	"pawl/api"
+	"pawl/hex"
 )
 
-const (
-	hexDigits   = "0123456789abcdef"
-	floatDigits = 16
-)
+const floatDigits = 16
 
 // form is how a value of that kind of slot stands in a line.
 func form(slotKind int, v api.Value) string {
@@ -22,7 +20,7 @@ func form(slotKind int, v api.Value) string {
 		digits := strconv.FormatUint(v.Num, 16)
 		return strings.Repeat("0", floatDigits-len(digits)) + digits
 	case api.KBytes:
-		return hex(v.Data)
+		return hex.Text(v.Data)
 	}
 	return strconv.FormatUint(v.Num, 10)
 }
@@ -35,7 +33,8 @@ func unform(slotKind int, thing string) api.Value {
 	case api.KFloat:
 		return api.Value{Num: numberOf(thing, 16)}
 	case api.KBytes:
-		return api.Value{Data: unhex(thing)}
+		b, _ := hex.Bytes(thing)
+		return api.Value{Data: b}
 	}
 	return api.Value{Num: numberOf(thing, 10)}
 }
@@ -46,23 +45,6 @@ func numberOf(digits string, base int) uint64 {
 		return 0
 	}
 	return n
-}
-
-func hex(b []byte) string {
-	var out []byte
-	for _, c := range b {
-		out = append(out, hexDigits[c/16], hexDigits[c%16])
-	}
-	return string(out)
-}
-
-func unhex(digits string) []byte {
-	var out []byte
-	for ; len(digits) >= 2; digits = digits[2:] {
-		high, low := strings.IndexByte(hexDigits, digits[0]), strings.IndexByte(hexDigits, digits[1])
-		out = append(out, byte(16*high+low))
-	}
-	return out
 }
 
 // quote makes a quoted text.
