@@ -67,9 +67,26 @@ func TestTable(t *testing.T) {
 
 // An empty word is none of what words can be: so a word that is missing is found.
 func TestEmptyWord(t *testing.T) {
-	for i, is := range []func(string) bool{script.Number, script.Seed, script.Hex, script.UpTo(9), script.Letters(9), script.OneOf("a", "b")} {
+	for i, is := range []func(string) bool{script.Number, script.Seed, script.Hex, script.Decimal(9), script.UpTo(9), script.Letters(9), script.OneOf("a", "b")} {
 		if is("") {
 			t.Errorf("an empty word is %d", i)
+		}
+	}
+}
+
+// Numbers as words: a script's have up to nine digits, others as many as is said.
+func TestNumberWords(t *testing.T) {
+	for _, x := range []struct {
+		word   string
+		digits int // 0: it is no number
+	}{{"0", 1}, {"7", 1}, {"10", 2}, {"999999999", 9}, {"1000000000", 10}, {"00", 0}, {"01", 0}, {"-1", 0}, {"+1", 0}, {"1 ", 0}, {"a", 0}, {"1e3", 0}} {
+		if script.Number(x.word) != (x.digits > 0 && x.digits <= 9) {
+			t.Errorf("Number(%q)", x.word)
+		}
+		for most := range 12 {
+			if script.Decimal(most)(x.word) != (x.digits > 0 && x.digits <= most) {
+				t.Errorf("Decimal(%d) of %q", most, x.word)
+			}
 		}
 	}
 }

@@ -18,11 +18,15 @@ const (
 	noBytes = "-" // the word that stands for no bytes
 )
 
-// Number, UpTo, Seed, Letters, OneOf and Hex tell what a word is. No empty one is any of it.
+// Number, Decimal, UpTo, Seed, Letters, OneOf and Hex tell what a word is. No empty one is any of it.
 
-// Number: a decimal number, with no 0 ahead of its other digits. UpTo: one that is at most so great.
-func Number(word string) bool {
-	return made(word, digits, mostDigits) && (word == "0" || word[0] != '0')
+// Number: a decimal number, with no 0 ahead of its other digits. Decimal: one of at most so many digits. UpTo: one that is at most so great.
+func Number(word string) bool { return Decimal(mostDigits)(word) }
+
+func Decimal(most int) func(word string) bool {
+	return func(word string) bool {
+		return made(word, digits, most) && (word == "0" || word[0] != '0')
+	}
 }
 
 func UpTo(most int) func(word string) bool {
